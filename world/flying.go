@@ -61,6 +61,9 @@ func (w *World) Flying() []node.Note {
 	return l
 }
 
+// Many notes fly: so many. A play asks at nearly each step, which should not copy them all.
+func (w *World) Many() int { return len(w.flying) }
+
 // send notes on their way; there is no more room than the bound.
 func (w *World) send(l []node.Note) {
 	room := api.MaxFlying - len(w.flying)

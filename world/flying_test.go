@@ -27,6 +27,9 @@ func crowd(t *testing.T, many int) *world.World {
 func TestNoSuchNote(t *testing.T) {
 	for _, many := range []int{0, 1, 3, 199} {
 		w := crowd(t, many)
+		if w.Many() != many {
+			t.Error(w.Many(), many)
+		}
 		was := look(w)
 		for _, at := range []int{-1, many, many + 1, api.MaxFlying, math.MinInt, math.MaxInt} {
 			refused(t, w.Deliver(at), api.ErrNone)
